@@ -117,6 +117,11 @@ func urlTold(text string) impl.Url {
 	if len(text) > 200 {
 		return impl.Url{}
 	}
+	return longUrlTold(text)
+}
+
+// longUrlTold asks nothing of how long the text is.
+func longUrlTold(text string) impl.Url {
 	text = string(lineEnds.ReplaceAll(unseenEnds.ReplaceAll([]byte(text), nil), nil))
 	all := wholeUrl.FindStringSubmatch(text)
 	if all == nil {

@@ -54,7 +54,7 @@ func joinTold(base impl.Url, text string) impl.Url {
 	case base.Host == impl.Host{} && !strings.HasPrefix(text, "#"):
 		return impl.Url{}
 	case slashesAhead.MatchString(text):
-		return okOrNone(urlTold(base.Scheme + ":" + text))
+		return okOrNone(longUrlTold(base.Scheme + ":" + text))
 	}
 	part := pathAndTail.FindStringSubmatch(text)
 	u := base
@@ -461,10 +461,11 @@ func TestPromise58TwoSlashesLeaveTheScheme(t *testing.T) {
 	for range 5000 {
 		u := anyPage(m)
 		text := "//c.com/" + strings.TrimSpace(m.pick([]string{anyRelative(m), m.text(20, mixed()), strings.Repeat("a/../", m.below(50))}))
-		want, _ := impl.UrlGet(u.Scheme + ":" + text)
-		if len(text) <= impl.TextMax {
+		if whole := u.Scheme + ":" + text; len(whole) <= impl.TextMax {
+			want, _ := impl.UrlGet(whole)
 			joins(t, u, text, okOrNone(want))
 		}
+		joins(t, u, text, joinTold(u, text))
 	}
 	for text, want := range map[string]string{
 		"//c.com":            "//c.com/",
@@ -486,13 +487,47 @@ func TestPromise58TwoSlashesLeaveTheScheme(t *testing.T) {
 	}
 }
 
-func TestPromise58LimitBehindTheScheme(t *testing.T) {
+// The scheme of the base does not count to how long a text may be.
+func TestPromise58LimitOfTheTextAlone(t *testing.T) {
+	steps := strings.Repeat("./", impl.TextMax)
+	slashes := strings.Repeat("/\\", impl.TextMax)
 	for _, scheme := range []string{"http", "https"} {
-		room := impl.TextMax - len(scheme) - len("://y/")
-		steps := strings.Repeat("./", impl.TextMax)
-		leads(t, scheme+"://x/a/b", "//y/"+steps[:room], scheme+"://y/")
-		leads(t, scheme+"://x/a/b", "//y/"+steps[:room+1], "")
-		leads(t, scheme+"://x/a/b", "\\\\y/"+steps[:room]+"\n", scheme+"://y/")
+		from := scheme + "://x/a/b"
+		for long := impl.TextMax - 12; long <= impl.TextMax+12; long++ {
+			for text, want := range map[string]string{
+				"//y/" + steps[:long-4]:                                 "://y/",
+				"//y/" + strings.Repeat("c/../", 30) + steps[:long-154]: "://y/",
+				slashes[:long-5] + "c.com":                              "://c.com/",
+				slashes[:long-9] + "c.com?q#f":                          "://c.com/?q#f",
+				"//c.com:" + strings.Repeat("0", long-10) + "81":        "://c.com:81/",
+				"//c.com/x?q#f" + strings.Repeat(" ", long-13):          "://c.com/x?q#f",
+				strings.Repeat("\n", long-13) + "//c.com/x?q#f":         "://c.com/x?q#f",
+				"/" + strings.Repeat("\t", long-7) + "/c.com":           "://c.com/",
+			} {
+				if len(text) != long {
+					t.Fatalf("%q has %d bytes, not %d", text, len(text), long)
+				}
+				if long <= impl.TextMax {
+					leads(t, from, text, scheme+want)
+				} else {
+					leads(t, from, text, "")
+				}
+			}
+		}
+	}
+}
+
+// What is written has the scheme, and is no longer than a text even so.
+func TestPromise58LimitOfWhatIsWritten(t *testing.T) {
+	for _, scheme := range []string{"http", "https"} {
+		for _, begin := range []string{"//y/", "//y/?", "//y/#", "//u@y/", "//y/a/b?q#"} {
+			room := impl.TextMax - len(scheme) - 1 - len(begin)
+			full := begin + strings.Repeat("c", room)
+			leads(t, scheme+"://x/a/b", full, scheme+":"+full)
+			leads(t, scheme+"://x/a/b", "//"+full, scheme+":"+full)
+			leads(t, scheme+"://x/a/b", full+"c", "")
+			leads(t, scheme+"://x/a/b", full+strings.Repeat("c", len(scheme)+1), "")
+		}
 	}
 }
 
