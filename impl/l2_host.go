@@ -201,6 +201,21 @@ func allFigures(text string) bool {
 	return true
 }
 
+// numberUpTo stops at the first figure that makes too much, so that no number wraps round; of no figures it is 0.
+func numberUpTo(figures string, most int) (int, bool) {
+	number := 0
+	for i := 0; i < len(figures); i++ {
+		if !isFigure(figures[i]) {
+			return 0, false
+		}
+		number = number*10 + int(figures[i]-'0')
+		if number > most {
+			return 0, false
+		}
+	}
+	return number, true
+}
+
 func isHex(part string) bool {
 	return strings.HasPrefix(part, "0x") || strings.HasPrefix(part, "0X")
 }
