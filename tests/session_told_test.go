@@ -76,7 +76,7 @@ func init() {
 		"by": "N", "key": "N N", "ask": "N", "free": "N", "show": "", "near": "N", "find": "N WORD", "url": "URL",
 	} {
 		for _, word := range []string{"N", "URL", "WORD"} {
-			form = regexp.MustCompile(`\b`+word+`\b`).ReplaceAllString(form, `([^ ]+)`)
+			form = regexp.MustCompile(`\b`+word+`\b`).ReplaceAllString(form, `([^ ]*)`)
 		}
 		lineForms[name] = regexp.MustCompile(`(?s)^` + strings.TrimSpace(name+" "+form) + `$`)
 	}
@@ -138,7 +138,7 @@ func lineTold(w impl.Window, line string) (impl.Window, string) {
 	case "find":
 		return w, fmt.Sprintf("frame %d\n", findTold(w, placeTold(words[0]), words[1]))
 	case "url":
-		if u, ok := impl.UrlGet(words[0]); ok {
+		if u, ok := impl.UrlGet(words[0]); ok && impl.UrlOk(u) {
 			return w, fmt.Sprintf("%s origin %s site %s\n", impl.UrlPut(u), impl.OriginPut(impl.OriginOf(u)), impl.HostSite(u.Host))
 		}
 		return w, "none\n"
@@ -147,7 +147,7 @@ func lineTold(w impl.Window, line string) (impl.Window, string) {
 }
 
 func eventTold(w impl.Window, name string, words []string) (impl.Window, string) {
-	v, text := move{frame: placeTold(words[0])}, words[1]
+	v, text, leads := move{frame: placeTold(words[0])}, words[1], true
 	switch name {
 	case "go", "set":
 		v.what, v.replace = toGo, name == "set"
@@ -156,13 +156,13 @@ func eventTold(w impl.Window, name string, words []string) (impl.Window, string)
 	case "state", "keep":
 		v.what, v.text, v.replace = toState, words[2], name == "keep"
 	case "by":
-		v.what, v.by, text = toBy, stepTold(words[0]), ""
+		v.what, v.by, leads = toBy, stepTold(words[0]), false
 	case "key":
-		v.what, v.by, text = toKey, placeTold(words[1]), ""
+		v.what, v.by, leads = toKey, placeTold(words[1]), false
 	default:
-		v.what, v.replace, text = toAsk, name == "ask", ""
+		v.what, v.replace, leads = toAsk, name == "ask", false
 	}
-	if text != "" {
+	if leads {
 		from, there := hereTold(w, v.frame)
 		u, ok := impl.UrlJoin(from, text)
 		if !there || !ok {

@@ -283,12 +283,75 @@ func TestPromise47WhatIsNoLine(t *testing.T) {
 		what(strings.Replace(line, name, name+"\t", 1))
 		for i := range words[1:] {
 			what(strings.Join(words[:i+1], " "))
-			what(strings.Join(words[:i+1], " ") + " ")
+			if i+2 < len(words) {
+				what(strings.Join(words[:i+1], " ") + " ")
+			}
 			what(strings.Join(words[:i+1], " ") + "  " + strings.Join(words[i+1:], " "))
 			what(strings.Join(words[:i+1], " ") + "\t" + strings.Join(words[i+1:], " "))
 		}
 	}
-	answers(t, " -> what", "  -> what", "hello -> what", "\n -> what", "0 -> what")
+	answers(t, " -> what", "  -> what", "   -> what", "hello -> what", "\n -> what", "0 -> what")
+}
+
+func TestPromise47AnEmptyTextLeadsToItself(t *testing.T) {
+	begin := []string{"open http://a.com/b?q#c -> ok"}
+	for line, shown := range map[string]string{
+		"go 0 ":       "0  http://a.com/b?q doc 2 key 2\nstep 1 of 1",
+		"set 0 ":      "0  http://a.com/b?q doc 2 key 1\nstep 0 of 0",
+		"frame 0 in ": "0  http://a.com/b?q#c doc 1 key 1\n  1 in http://a.com/b?q doc 2 key 2\nstep 0 of 0",
+		"frame 0  ":   "0  http://a.com/b?q#c doc 1 key 1\n  1  http://a.com/b?q doc 2 key 2\nstep 0 of 0",
+		"state 0  s":  "0  http://a.com/b?q doc 1 key 2 state s\nstep 1 of 1",
+		"state 0  ":   "0  http://a.com/b?q doc 1 key 2\nstep 1 of 1",
+		"keep 0  s":   "0  http://a.com/b?q doc 1 key 1 state s\nstep 0 of 0",
+		"keep 0  ":    "0  http://a.com/b?q doc 1 key 1\nstep 0 of 0",
+	} {
+		answers(t, append(begin, line+" -> ok", "show -> "+shown)...)
+		// An address without a host has no text that leads but one with a sharp sign ahead, or a whole address; a frame that is not there, and an empty word in its place, have none.
+		answers(t, line+" -> what", "show -> 0  about:blank doc 1 key 1\nstep 0 of 0")
+		for _, frame := range []string{"1", ""} {
+			answers(t, append(begin, strings.Replace(line, "0", frame, 1)+" -> what", "show -> 0  http://a.com/b?q#c doc 1 key 1\nstep 0 of 0")...)
+		}
+	}
+	answers(t, append(begin, "go 0  -> ok", "go 0  -> ok", "show -> 0  http://a.com/b?q doc 3 key 2\nstep 1 of 1", "ask 0 -> ok", "go 0  -> no 6")...)
+}
+
+func TestPromise47EmptyNamesAndStates(t *testing.T) {
+	answers(t,
+		"open http://a.com/ -> ok",
+		"frame 0  x -> ok",
+		"frame 1  y -> ok",
+		"find 0  -> frame -1",
+		"find 1  -> frame -1",
+		"state 0 p  -> ok",
+		"keep 0 p s -> ok",
+		"show -> 0  http://a.com/p doc 1 key 4 state s\n  1  http://a.com/x doc 2 key 2\n    2  http://a.com/y doc 3 key 3\nstep 1 of 1",
+		"keep 0 p  -> ok",
+		"show -> 0  http://a.com/p doc 1 key 4\n  1  http://a.com/x doc 2 key 2\n    2  http://a.com/y doc 3 key 3\nstep 1 of 1",
+		"open  -> no 1",
+		"url  -> none",
+		"show -> 0  http://a.com/p doc 1 key 4\n  1  http://a.com/x doc 2 key 2\n    2  http://a.com/y doc 3 key 3\nstep 1 of 1",
+	)
+}
+
+// An empty word has no figures, so it is no 0.
+func TestPromise47AnEmptyWordIsNoNumber(t *testing.T) {
+	for line, want := range map[string]string{
+		"by ": "no 5", "key 0 ": "no 5", "key  1": "no 2", "key  ": "no 2", "ask ": "no 2", "free ": "no 2", "near ": "0 seen", "find  n": "frame -1", "find  ": "frame -1",
+		"go  x": "what", "set  x": "what", "frame  n x": "what", "state  x s": "what", "keep  x s": "what",
+	} {
+		answers(t, "open http://a.com/ -> ok", "frame 0 n http://a.com/ -> ok", line+" -> "+want, "show -> 0  http://a.com/ doc 1 key 1\n  1 n http://a.com/ doc 2 key 2\nstep 0 of 0")
+	}
+}
+
+// One blank more is one word more, wherever it stands.
+func TestPromise47AWordTooManyIsEmpty(t *testing.T) {
+	answers(t,
+		"open http://a.com/ -> ok",
+		"show  -> what", " show -> what", "open  http://b.com/ -> what", "open   -> what", "go  0 x -> what", "go 0  x -> what", "go 0   -> what",
+		"frame 0 n x  -> what", "frame 0   x -> what", "state 0 p s  -> what", "keep 0 p   -> what", "by   -> what", "by  0 -> what", "key 0 1  -> what",
+		"ask 0  -> what", "free  0 -> what", "near 0  -> what", "find 0  n -> what", "url  x:y -> what", "url   -> what",
+		"show -> 0  http://a.com/ doc 1 key 1\nstep 0 of 0",
+	)
 }
 
 func TestPromise47WhereATextLeadsNowhere(t *testing.T) {
@@ -380,6 +443,30 @@ func TestPromise47WhatIsToldOfAddresses(t *testing.T) {
 	)
 }
 
+// What is told is ok: once it is written, it is read as itself, so that it has TextMax bytes at most.
+func TestPromise47WhatIsTooLongOnceItIsWritten(t *testing.T) {
+	for _, c := range []struct{ begin, sign, written, told string }{
+		{"http://a.com/", "\"", "%22", " origin http://a.com site a.com"},
+		{"https://b.a.com:81/?", "'", "%27", " origin https://b.a.com:81 site a.com"},
+		{"http://1.2.3.4/#", "<", "%3C", " origin http://1.2.3.4 site 1.2.3.4"},
+		{"mailto:", "\x7f", "%7F", " origin null site "},
+	} {
+		signs := (impl.TextMax - len(c.begin)) / 3
+		letters := strings.Repeat("x", impl.TextMax-len(c.begin)-3*signs)
+		text := c.begin + strings.Repeat(c.sign, signs) + letters
+		full := c.begin + strings.Repeat(c.written, signs) + letters
+		answers(t,
+			"url "+text+" -> "+full+c.told,
+			"url "+full+" -> "+full+c.told,
+			"url "+text+"x -> none",
+			"url "+full+"x -> none",
+			"url "+text+c.sign+" -> none",
+			"url "+c.begin+strings.Repeat(c.sign, impl.TextMax-len(c.begin))+" -> none",
+		)
+	}
+	answers(t, "url http://"+strings.Repeat("@", 70)+"a.com/ -> none", "url http://"+strings.Repeat("@", 30)+"a.com/ -> http://"+strings.Repeat("%40", 29)+"@a.com/ origin http://a.com site a.com")
+}
+
 func TestPromise47WhatIsANumber(t *testing.T) {
 	for word, want := range map[string]string{
 		"0": "ok", "00": "ok", "000000000000000000000000": "ok", "1": "no 2", "9999": "no 2", "10000": "no 2", "18446744073709551616": "no 2",
@@ -409,26 +496,27 @@ func TestPromise47WhatIsANumber(t *testing.T) {
 
 // anyLine is a line that often does something.
 func anyLine(m *maker) string {
-	f := m.pick([]string{"0", "0", "0", "1", "1", "2", "3", "00", "x", "10000", "7"})
-	text := m.pick([]string{"/", "x", "../y", "#f", "#g", "?q", "http://b.com/", "https://a.com/", "about:blank", "//", "http://256.1/", "//c.b.com:81"})
-	state := m.pick([]string{"s", "t", "tt", strings.Repeat("s", 21)})
-	number := m.pick([]string{"0", "1", "2", "3", "5", "8", "-1", "-1", "-2", "-3", "-0", "x", "1000"})
+	f := m.pick([]string{"0", "0", "0", "1", "1", "2", "3", "00", "x", "10000", "7", ""})
+	text := m.pick([]string{"", "/", "x", "../y", "#f", "#g", "?q", "http://b.com/", "https://a.com/", "about:blank", "//", "http://256.1/", "//c.b.com:81", "http://a.com/" + strings.Repeat("\"", 63)})
+	state := m.pick([]string{"", "s", "t", "tt", strings.Repeat("s", 21)})
+	number := m.pick([]string{"0", "1", "2", "3", "5", "8", "-1", "-1", "-2", "-3", "-0", "x", "1000", ""})
 	return m.pick([]string{
 		"open http://a.com/" + m.pick([]string{"", "", "#f", "x"}),
 		"go " + f + " " + text, "go " + f + " " + text, "go " + f + " " + text, "set " + f + " " + text,
-		"frame " + f + " " + m.pick([]string{"side", "main", "main", "n", "N", "ninebytes"}) + " " + text,
+		"frame " + f + " " + m.pick([]string{"", "side", "main", "main", "n", "N", "ninebytes"}) + " " + text,
 		"frame " + f + " " + m.pick([]string{"side", "main"}) + " " + text,
+		"frame " + m.pick([]string{"1", "2", "3"}) + " n x",
 		"state " + f + " " + text + " " + state, "keep " + f + " " + text + " " + state,
 		"by " + number, "by " + number, "key " + f + " " + number, "ask " + f, "free " + f, "show", "show", "near " + f,
-		"find " + f + " " + m.pick([]string{"side", "main", "n"}), "url " + text,
-		m.pick([]string{"", "what", "show ", "go  0 x", "by", "open", "url", "near 0 0"}),
+		"find " + f + " " + m.pick([]string{"side", "main", "n", ""}), "url " + text,
+		m.pick([]string{"", " ", "what", "show ", "go  0 x", "by", "open", "open ", "url", "near 0 0"}),
 	})
 }
 
 func TestPromise47OfMadeSessions(t *testing.T) {
 	m := &maker{state: 47}
 	said := map[string]int{}
-	for range 1500 {
+	for range 2000 {
 		lines := []string{"open http://a.com/"}
 		for range m.below(44) {
 			lines = append(lines, anyLine(m))
